@@ -1,4 +1,5 @@
-package state
+// Package room tells whether an arena has rooms, and leaves it as it was: who takes two of them mustn't have taken one where the other one isn't there.
+package room
 
 import (
 	"slices"
@@ -31,8 +32,8 @@ func (t *trial) end() {
 	t.arena.Copy(0, t.was)
 }
 
-// rooms tells whether an arena has two rooms for so many bytes.
-func rooms(a *arena.Arena, one, other int) bool {
+// Both tells whether an arena has two rooms for so many bytes.
+func Both(a *arena.Arena, one, other int) bool {
 	small, big := arena.Class(min(one, other)), arena.Class(max(one, other))
 	left := a.Size() - a.Height()
 	if small+big <= left {

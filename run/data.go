@@ -2,13 +2,11 @@ package run
 
 import (
 	"grommet/api"
-	"grommet/conv"
 	"grommet/instr"
-	"grommet/op"
-	"grommet/word"
+	"grommet/numeric"
 )
 
-// The codes of instructions that move words, or let them be of another width.
+// The codes of instructions that move words.
 const (
 	opDrop      = 26
 	opSelect    = 27
@@ -19,24 +17,7 @@ const (
 	opGlobalSet = 36
 	opConst32   = 65
 	opConst64   = 66
-	opWrap      = 167
 )
-
-// extension is an instruction that extends words.
-type extension struct {
-	code, from, to int
-	signed         bool
-}
-
-var extensions = [...]extension{
-	{172, 32, 64, true},
-	{173, 32, 64, false},
-	{192, 8, 32, true},
-	{193, 16, 32, true},
-	{194, 8, 64, true},
-	{195, 16, 64, true},
-	{196, 32, 64, true},
-}
 
 // variable does what moves words.
 func (m *Machine) variable(x *instr.Instr) bool {
@@ -82,39 +63,17 @@ func (m *Machine) choose() {
 	}
 }
 
-// numeric does what layer 5 does.
+// numeric does what takes words alone, and gives one.
 func (m *Machine) numeric(x *instr.Instr) bool {
-	group, number, bits, ok := op.Numeric(x.Code)
-	if !ok {
+	switch numeric.Takes(x.Code) {
+	case 1:
+		v, e := numeric.One(x.Code, m.pop())
+		m.put(v, api.NoTrap, e)
+	case 2:
+		last := m.pop()
+		m.put(numeric.Two(x.Code, m.pop(), last))
+	default:
 		return false
 	}
-	var v uint64
-	var t api.Trap
-	var e api.Errno
-	switch last := m.pop(); group {
-	case op.GroupUnary:
-		v, e = word.Unary(number, bits, last)
-	case op.GroupTest:
-		v, e = word.Test(number, bits, m.pop(), last)
-	case op.GroupBinary:
-		v, t, e = word.Binary(number, bits, m.pop(), last)
-	}
-	m.put(v, t, e)
 	return true
-}
-
-// width does what lets words be of another width.
-func (m *Machine) width(x *instr.Instr) bool {
-	if x.Code == opWrap {
-		m.push(conv.Wrap(m.pop()))
-		return true
-	}
-	for _, w := range extensions {
-		if w.code == x.Code {
-			v, e := conv.Extend(w.from, w.to, w.signed, m.pop())
-			m.put(v, api.NoTrap, e)
-			return true
-		}
-	}
-	return false
 }
